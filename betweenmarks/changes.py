@@ -3,7 +3,7 @@
 Each takes the plant and the numbers given; that the quantity is there has been asked already.
 """
 
-from betweenmarks.follow import DIRECTIONS, all_pairs, last_place
+from betweenmarks.follow import DIRECTIONS, all_pairs, has_place
 from betweenmarks.refusals import CANNOT_BE, NONE_THERE, NOT_RIGHT, TOO_MANY
 
 MOST_MARKS = 4
@@ -29,7 +29,7 @@ def narrow(plant, i, pairs):
 
 def place(plant, given):
     i = given[0]
-    if given[1] > last_place(plant.marks[i]):
+    if not has_place(plant.marks[i], given[1]):
         return [NOT_RIGHT]
     return narrow(plant, i, [pair for pair in plant.possible[i] if pair[0] == given[1]])
 
@@ -43,7 +43,7 @@ def way(plant, given):
 
 def notat(plant, given):
     i = given[0]
-    if given[1] > last_place(plant.marks[i]):
+    if not has_place(plant.marks[i], given[1]):
         return [NOT_RIGHT]
     return narrow(plant, i, [pair for pair in plant.possible[i] if pair[0] != given[1]])
 

@@ -10,6 +10,14 @@ def last_place(marks):
     return 2 * marks
 
 
+def has_place(marks, place):
+    return place <= last_place(marks)
+
+
+def has_pair(marks, place, direction):
+    return has_place(marks, place) and direction in DIRECTIONS
+
+
 def is_mark(place):
     return place % 2 == 1
 
@@ -29,7 +37,7 @@ def following_places(marks, place, direction):
     # A mark is a single point: what moves has left it a moment later.
     if is_mark(place):
         return [beyond]
-    if beyond < 0 or beyond > last_place(marks):
+    if beyond < 0 or not has_place(marks, beyond):
         return [place]
     return [place, beyond]
 
@@ -47,3 +55,16 @@ def following_pairs(marks, pairs):
             for direction in following_directions(pair[1]):
                 reached[(place, direction)] = True
     return sorted(reached)
+
+
+def preceding_pairs(marks, pair):
+    """All that this pair follows, in order."""
+    return [other for other in all_pairs(marks) if pair in following_pairs(marks, [other])]
+
+
+def pairs_behind(marks, pairs, moments):
+    """All that may be when so many moments have gone by, if one of these is now, in order."""
+    reached = pairs
+    for moment in range(moments):
+        reached = following_pairs(marks, reached)
+    return reached

@@ -1,6 +1,6 @@
 import unittest
 
-from tests.helper import ask, last, pair_list
+from tests.helper import ask, every_pair, follows, last, pair_list
 
 TOP = 4294967295
 
@@ -132,21 +132,6 @@ class Forget(unittest.TestCase):
                          [[0], [-2], [0], [-2], [-2], [0]])
 
 
-def follows(marks, pair, other):
-    """Whether other may come a moment behind pair, as the document words it."""
-    place, direction = pair
-    on_mark = place in (1, 3, 5, 7)
-    step = other[0] - place
-    if direction == 1:
-        place_is_right = step == 0
-    elif direction == 2 and place == 2 * marks or direction == 0 and place == 0:
-        place_is_right = step == 0
-    else:
-        onward = 1 if direction == 2 else -1
-        place_is_right = step == onward or step == 0 and not on_mark
-    return place_is_right and {direction, other[1]} != {0, 2}
-
-
 class Tick(unittest.TestCase):
     def test_one_mark_by_hand(self):
         for text, expected in (
@@ -171,7 +156,7 @@ class Tick(unittest.TestCase):
 
     def test_every_pair(self):
         for marks in range(5):
-            everything = [(p, d) for p in range(2 * marks + 1) for d in range(3)]
+            everything = every_pair(marks)
             for pair in everything:
                 with self.subTest(marks=marks, pair=pair):
                     told = pairs_behind(f"begin; quantity {marks}; place 0 {pair[0]}; way 0 {pair[1]}; tick")
@@ -179,7 +164,7 @@ class Tick(unittest.TestCase):
 
     def test_what_follows_any_that_might(self):
         for marks in range(5):
-            everything = [(p, d) for p in range(2 * marks + 1) for d in range(3)]
+            everything = every_pair(marks)
             now = [(0, 0), (0, 1), (0, 2)]
             text = f"begin; quantity {marks}; place 0 0"
             for moment in range(1, 21):
